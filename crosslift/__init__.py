@@ -1,0 +1,1 @@
+"""Crosslift: shifting the rows and columns of a table."""
