@@ -16,14 +16,35 @@ def edit_fault(costs, edit):
     return None
 
 
-def check_edits(costs, edits):
-    """Raise InvalidEdit unless all edits are valid for lines of these costs."""
+def first_fault(costs, edits):
+    """The index of the first invalid edit and the reason for it, or None.
+
+    What is not a list is malformed at 0.
+    """
     if not isinstance(edits, list):
-        raise InvalidEdit(index=0, reason="malformed")
+        return 0, "malformed"
     for index, edit in enumerate(edits):
         reason = edit_fault(costs, edit)
         if reason is not None:
-            raise InvalidEdit(index=index, reason=reason)
+            return index, reason
+    return None
+
+
+def check_edits(costs, edits):
+    """Raise InvalidEdit unless all edits are valid for lines of these costs."""
+    fault = first_fault(costs, edits)
+    if fault is not None:
+        raise InvalidEdit(index=fault[0], reason=fault[1])
+
+
+def sum_edits(costs, edits):
+    """The total shift of each line, and the total cost of the edits."""
+    shifts = [0] * len(costs)
+    total = 0
+    for line, delta in edits:
+        shifts[line] += delta
+        total += abs(delta) * costs[line]
+    return shifts, total
 
 
 def shift_cells(cells, shifts):
@@ -42,9 +63,5 @@ def apply_edits(table, edits):
     check_table(table)
     costs = line_costs(table)
     check_edits(costs, edits)
-    shifts = [0] * len(costs)
-    total = 0
-    for line, delta in edits:
-        shifts[line] += delta
-        total += abs(delta) * costs[line]
+    shifts, total = sum_edits(costs, edits)
     return shift_cells(table[0], shifts), total

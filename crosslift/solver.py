@@ -57,6 +57,14 @@ def cheapest_shifts(cells, costs, goal):
     return total, shifts
 
 
+def shifts_to_goal(cells, costs, goal):
+    """The minimum cost and the shift of each line; NoSolution if the goal is unreachable."""
+    found = cheapest_shifts(cells, costs, goal)
+    if found is None:
+        raise NoSolution("the goal is unreachable")
+    return found
+
+
 def minimum_cost(table, goal):
     """The minimum cost and the shift of each line in a solution of that cost, or None."""
     check_table(table)

@@ -18,6 +18,16 @@ def is_number(value):
     return is_integer(value, -LARGEST_NUMBER, LARGEST_NUMBER)
 
 
+def is_cost(value):
+    """Whether the value can be the cost of a line; None locks it."""
+    return value is None or is_integer(value, 1, LARGEST_COST)
+
+
+def is_goal_entry(value):
+    """Whether the value can be the entry of a goal for a cell; None leaves the cell open."""
+    return value is None or is_number(value)
+
+
 def is_row(row, length):
     """Whether the row is a tuple of so many valid integers."""
     return isinstance(row, tuple) and len(row) == length and all([is_number(value) for value in row])
@@ -36,15 +46,15 @@ def first_wrong_row(cells):
     return None
 
 
-def first_wrong_entry(entries, length, low, high):
+def first_wrong_entry(entries, length, is_valid):
     """The index of the first entry that is invalid, missing or superfluous, or None.
 
-    A valid entry is None or an integer from low to high. What is not a tuple is wrong at 0.
+    What is not a tuple is wrong at 0.
     """
     if not isinstance(entries, tuple):
         return 0
     for index, entry in enumerate(entries):
-        if index == length or not (entry is None or is_integer(entry, low, high)):
+        if index == length or not is_valid(entry):
             return index
     if len(entries) < length:
         return len(entries)
@@ -53,7 +63,7 @@ def first_wrong_entry(entries, length, low, high):
 
 def check_costs(part, costs, length):
     """Raise InvalidTable for this part unless the costs are valid."""
-    index = first_wrong_entry(costs, length, 1, LARGEST_COST)
+    index = first_wrong_entry(costs, length, is_cost)
     if index is not None:
         raise InvalidTable(part=part, index=index)
 
@@ -77,7 +87,7 @@ def check_goal(cells, goal):
     for row, entries in enumerate(goal):
         if row == len(cells):
             raise InvalidGoal(row=row, column=0)
-        column = first_wrong_entry(entries, len(cells[0]), -LARGEST_NUMBER, LARGEST_NUMBER)
+        column = first_wrong_entry(entries, len(cells[0]), is_goal_entry)
         if column is not None:
             raise InvalidGoal(row=row, column=column)
     if len(goal) < len(cells):

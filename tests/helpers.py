@@ -1,17 +1,31 @@
 """What several tests need: samples, and answers computed in another way than the program does."""
 
+import unittest
+
 from crosslift.errors import LiftError
 
 LIMIT = 1000000
 TABLE = (((0, 0), (0, 0)), (3, 5), (4, None))
 SQUARE = (((0, 0), (0, 0)), (3, 3), (3, 3))
 SMALL = (((0,),), (3,), (3,))
+MALFORMED = (
+    None, True, False, 3, "", "ab", "01", [], [0, 1], (), (0,), (0, 1, 2), (0, None), (0, True),
+    (0, False), (0, "1"), (0, [1]), (0, LIMIT + 1), (0, -LIMIT - 1), (None, 1), (True, 1),
+    (False, 1), ("0", 1), ((0,), 1), ([0], 1), (-1, 1), (99, 1),
+)
+NO_LISTS = (None, True, False, 0, 7, "", "abc", (), ((0, 1),), (0, 1), ((3, 1),))
 
 ATTRIBUTES = {
     "InvalidTable": ("part", "index"),
     "InvalidGoal": ("row", "column"),
     "InvalidEdit": ("index", "reason"),
+    "BatchAborted": ("index", "reason"),
+    "InvalidCertificate": ("index",),
+    "UnbalancedCertificate": ("index",),
     "NoSolution": (),
+    "UnknownLine": (),
+    "InvalidCost": (),
+    "ParseError": ("row",),
 }
 
 
@@ -26,6 +40,76 @@ def outcome(function, *arguments):
 
 def all_costs(table):
     return list(table[1] + table[2])
+
+
+def number_is_valid(value):
+    return type(value) is int and abs(value) <= LIMIT
+
+
+def row_is_valid(row, width):
+    return type(row) is tuple and len(row) == width and all(map(number_is_valid, row))
+
+
+def costs_fault(costs, length):
+    """The index of the first entry of the costs that is wrong, or None."""
+    if type(costs) is not tuple:
+        return 0
+    for index in range(max(length, len(costs))):
+        if index >= min(length, len(costs)):
+            return index
+        if costs[index] is not None and not (type(costs[index]) is int and costs[index] in range(1, 100)):
+            return index
+    return None
+
+
+def table_fault(table):
+    """The part and the index that InvalidTable must have, or None for a valid table."""
+    if type(table) is not tuple or len(table) != 3:
+        return (-1, 0)
+    cells, row_costs, column_costs = table
+    if type(cells) is not tuple or cells == ():
+        return (0, 0)
+    width = len(cells[0]) if type(cells[0]) is tuple else 0
+    bad = [row for row in range(len(cells)) if row > 6 or not row_is_valid(cells[row], width)]
+    if width not in range(1, 8):
+        bad = [0]
+    if bad:
+        return (0, bad[0])
+    for part, costs, length in ((1, row_costs, len(cells)), (2, column_costs, width)):
+        index = costs_fault(costs, length)
+        if index is not None:
+            return (part, index)
+    return None
+
+
+def goal_fault(cells, goal):
+    """The row and the column that InvalidGoal must have, or None for a valid goal."""
+    if type(goal) is not tuple:
+        return (0, 0)
+    width = len(cells[0])
+    for row in range(max(len(cells), len(goal))):
+        if row >= min(len(cells), len(goal)) or type(goal[row]) is not tuple:
+            return (row, 0)
+        for column in range(max(width, len(goal[row]))):
+            if column >= min(width, len(goal[row])):
+                return (row, column)
+            if goal[row][column] is not None and not number_is_valid(goal[row][column]):
+                return (row, column)
+    return None
+
+
+def edits_fault(costs, edits):
+    """The index and the reason that InvalidEdit must have, or None for valid edits."""
+    if type(edits) is not list:
+        return (0, "malformed")
+    for index, edit in enumerate(edits):
+        if type(edit) is not tuple or [type(item) for item in edit] != [int, int]:
+            return (index, "malformed")
+        if edit[0] not in range(len(costs)) or abs(edit[1]) > LIMIT:
+            return (index, "malformed")
+        if costs[edit[0]] is None:
+            return (index, "locked")
+    return None
 
 
 def gaps(table, goal):
@@ -96,6 +180,12 @@ def best_cost(table, goal, group):
     return min([cost for cost in found if cost is not None], default=None)
 
 
+def total_best_cost(table, goal):
+    """The minimum cost, or None."""
+    found = [best_cost(table, goal, group) for group in union_of_lines(table, goal)]
+    return None if None in found else sum(found)
+
+
 def contradicts(table, goal, path):
     """Whether a list of lines is a contradiction."""
     count = len(all_costs(table))
@@ -157,6 +247,17 @@ def spoilt(source, goal):
     return tuple(tuple(entries) for entries in rows)
 
 
+def another_solution(source, table, goal, shifts):
+    """A solution: each component without a locked line is moved by some number."""
+    moved = list(shifts)
+    for group in union_of_lines(table, goal):
+        if None not in [all_costs(table)[line] for line in group]:
+            by = source.randint(-LIMIT, LIMIT)
+            for line in group:
+                moved[line] += by if line < len(table[0]) else -by
+    return moved
+
+
 def random_cases(source, count, largest_side=7):
     """Pairs of a table and a goal: goals with open cells, full goals, and spoilt ones."""
     cases = []
@@ -169,3 +270,25 @@ def random_cases(source, count, largest_side=7):
             goal = spoilt(source, goal)
         cases.append((table, goal))
     return cases
+
+
+def shown(editor):
+    """All that an editor tells of itself."""
+    return [editor.table(), editor.total_cost(), editor.shifts(), editor.length(), editor.events()]
+
+
+class EditorCase(unittest.TestCase):
+    """What tests of editors check."""
+
+    def check(self, editor, table, total, shifts, length):
+        """What the editor shows, twice."""
+        expected = [table, total, shifts, length]
+        self.assertEqual(shown(editor)[:4], expected)
+        self.assertEqual(shown(editor)[:4], expected)
+
+    def fails(self, editor, expected, method, *arguments):
+        """The call raises and changes nothing."""
+        before = shown(editor)
+        with self.subTest(arguments=arguments):
+            self.assertEqual(outcome(getattr(editor, method), *arguments), expected)
+            self.assertEqual(shown(editor), before)

@@ -3,30 +3,19 @@ import random
 import unittest
 
 from crosslift.edits import apply_edits
-from tests.helpers import LIMIT, SMALL, TABLE, all_costs, outcome, random_table
-
-MALFORMED = (
-    None, True, False, 3, "", "ab", "01", [], [0, 1], (), (0,), (0, 1, 2), (0, None), (0, True),
-    (0, False), (0, "1"), (0, [1]), (0, LIMIT + 1), (0, -LIMIT - 1), (None, 1), (True, 1),
-    (False, 1), ("0", 1), ((0,), 1), ([0], 1), (-1, 1), (99, 1),
+from tests.helpers import (
+    LIMIT, MALFORMED, NO_LISTS, SMALL, TABLE, all_costs, edits_fault, outcome, random_table,
 )
-
 
 def edited_one_by_one(table, edits):
     """The outcome, by changing the cells one after the other."""
     costs = all_costs(table)
     cells = [list(row) for row in table[0]]
     total = 0
-    if type(edits) is not list:
-        return ("InvalidEdit", 0, "malformed")
-    for index, edit in enumerate(edits):
-        if type(edit) is not tuple or [type(item) for item in edit] != [int, int]:
-            return ("InvalidEdit", index, "malformed")
-        line, delta = edit
-        if line not in range(len(costs)) or abs(delta) > LIMIT:
-            return ("InvalidEdit", index, "malformed")
-        if costs[line] is None:
-            return ("InvalidEdit", index, "locked")
+    fault = edits_fault(costs, edits)
+    if fault is not None:
+        return ("InvalidEdit", *fault)
+    for line, delta in edits:
         for row in range(len(cells)):
             for column in range(len(cells[0])):
                 if line in (row, len(cells) + column):
@@ -62,7 +51,7 @@ class ApplyEdits(unittest.TestCase):
         self.assertIs(type(apply_edits(TABLE, [(1, 1)])), tuple)
 
     def test_not_a_list(self):
-        for edits in (None, True, False, 0, 7, "", "abc", (), ((0, 1),), (0, 1), ((3, 1),)):
+        for edits in NO_LISTS:
             with self.subTest(edits=edits):
                 self.assertEqual(outcome(apply_edits, TABLE, edits), ("InvalidEdit", 0, "malformed"))
 

@@ -1,13 +1,25 @@
 """Invalid tables and goals, and the order in which exceptions are raised."""
 
+import random
 import unittest
 
+from crosslift.certificates import lower_bound, optimal_certificate
 from crosslift.components import components, find_contradiction, is_contradiction
+from crosslift.editor import Editor
 from crosslift.edits import apply_edits
+from crosslift.queries import blocking_cells, forced_cells, lockable_lines
 from crosslift.solver import minimum_cost, minimum_steps, optimal_ranges
-from tests.helpers import LIMIT, SMALL, SQUARE, TABLE, outcome
+from crosslift.text_format import format_table
+from tests.helpers import (
+    LIMIT, SMALL, SQUARE, TABLE, goal_fault, outcome, random_table, table_fault,
+)
 
-WITH_GOAL = (components, find_contradiction, minimum_cost, minimum_steps, optimal_ranges)
+WITH_GOAL = (
+    components, find_contradiction, minimum_cost, minimum_steps, optimal_ranges,
+    optimal_certificate, forced_cells, blocking_cells, lockable_lines,
+)
+WITH_MORE = (is_contradiction, lower_bound)
+RAISE_NO_SOLUTION = (optimal_ranges, optimal_certificate, forced_cells, lockable_lines)
 CELLS = ((1, 2, 3), (4, 5, 6))
 ROWS = (3, None)
 COLUMNS = (1, 99, None)
@@ -27,8 +39,12 @@ class InvalidTables(unittest.TestCase):
             for goal in (GOAL, None, (), ((True,),)):
                 for function in WITH_GOAL:
                     self.assertEqual(outcome(function, table, goal), expected)
-                self.assertEqual(outcome(is_contradiction, table, goal, [0, 2, 0]), expected)
-                self.assertEqual(outcome(is_contradiction, table, goal, None), expected)
+                for function in WITH_MORE:
+                    self.assertEqual(outcome(function, table, goal, [0, 2, 0]), expected)
+                    self.assertEqual(outcome(function, table, goal, None), expected)
+            self.assertEqual(outcome(Editor, table), expected)
+            self.assertEqual(outcome(format_table, table), expected)
+            self.assertEqual(("InvalidTable", *table_fault(table)), expected)
 
     def test_valid_tables(self):
         wide = tuple(tuple(range(7)) for _ in range(7))
@@ -44,6 +60,9 @@ class InvalidTables(unittest.TestCase):
                 goal = table[0]
                 self.assertEqual(apply_edits(table, []), (table[0], 0))
                 self.assertEqual(minimum_cost(table, goal)[0], 0)
+                self.assertEqual(Editor(table).table(), table)
+                self.assertIs(type(format_table(table)), str)
+                self.assertIsNone(table_fault(table))
 
     def test_not_three_items(self):
         for table in NO_TUPLES:
@@ -139,8 +158,13 @@ class InvalidGoals(unittest.TestCase):
         with self.subTest(goal=goal):
             for function in WITH_GOAL:
                 self.assertEqual(outcome(function, table, goal), expected)
-            for path in ([0, 2, 0], [], None, 3):
-                self.assertEqual(outcome(is_contradiction, table, goal, path), expected)
+            for more in ([0, 2, 0], [], None, 3):
+                for function in WITH_MORE:
+                    self.assertEqual(outcome(function, table, goal, more), expected)
+            editor = Editor(table)
+            self.assertEqual(outcome(editor.solve, goal), expected)
+            self.assertEqual((editor.table(), editor.length()), (table, 0))
+            self.assertEqual(goal_fault(CELLS, goal), (row, column))
 
     def test_valid_goals(self):
         table = (((0, 0),), (1,), (1, 1))
@@ -197,4 +221,59 @@ class InvalidGoals(unittest.TestCase):
         self.assertEqual(outcome(minimum_steps, TABLE, ((4, 5), (6,))), ("InvalidGoal", 1, 1))
 
     def test_goal_comes_before_no_solution(self):
-        self.assertEqual(outcome(optimal_ranges, SQUARE, ((1, 0), (0, True))), ("InvalidGoal", 1, 1))
+        goal = ((1, 0), (0, True))
+        for function in RAISE_NO_SOLUTION:
+            self.assertEqual(outcome(function, SQUARE, goal), ("InvalidGoal", 1, 1))
+        self.assertEqual(outcome(lower_bound, SQUARE, goal, None), ("InvalidGoal", 1, 1))
+        self.assertEqual(outcome(Editor(SQUARE).solve, goal), ("InvalidGoal", 1, 1))
+
+
+class RandomTables(unittest.TestCase):
+    """Valid tables with up to two invalid changes."""
+
+    def test_first_invalid_part(self):
+        source = random.Random(20)
+        faults = {}
+        for number in range(3000):
+            rows, columns = source.randint(1, 7), source.randint(1, 7)
+            table = random_table(source, rows, columns, 0.2, source.choice((9, LIMIT)))
+            for _ in range(number % 3):
+                table = self.with_a_change(source, table)
+            fault = table_fault(table)
+            faults[fault] = faults.get(fault, 0) + 1
+            expected = None if fault is None else ("InvalidTable", *fault)
+            with self.subTest(table=table):
+                for found in (
+                    outcome(apply_edits, table, []), outcome(format_table, table), outcome(Editor, table),
+                ):
+                    self.assertEqual(found if found[0] != "returned" else None, expected)
+                if fault is None:
+                    self.assertEqual(apply_edits(table, []), (table[0], 0))
+        self.assertEqual({fault and fault[0] for fault in faults}, {None, -1, 0, 1, 2})
+        self.assertGreater(len(faults), 20)
+        self.assertGreater(faults[None], 500)
+
+    def with_a_change(self, source, table):
+        if type(table) is not tuple or len(table) != 3 or source.random() < 0.05:
+            return self.with_an_item_changed(source, table, NO_TUPLES)
+        part = source.randrange(3)
+        if part or type(table[0]) is not tuple or not table[0] or source.random() < 0.3:
+            changed = self.with_an_item_changed(source, table[part], NO_COSTS if part else NO_TUPLES)
+        else:
+            row = source.randrange(len(table[0]))
+            entries = self.with_an_item_changed(source, table[0][row], NO_NUMBERS)
+            changed = (*table[0][:row], entries, *table[0][row + 1:])
+        return (*table[:part], changed, *table[part + 1:])
+
+    @staticmethod
+    def with_an_item_changed(source, whole, wrong):
+        """A tuple with an item that is wrong, missing or superfluous; or no tuple at all."""
+        way = source.randrange(5)
+        if type(whole) is not tuple or not whole or way == 0:
+            return source.choice((*NO_TUPLES, (), [whole]))
+        at = source.randrange(len(whole))
+        if way == 1:
+            return (*whole[:at], *whole[at + 1:])
+        if way == 2:
+            return (*whole[:at], whole[at], *whole[at:])
+        return (*whole[:at], source.choice(wrong), *whole[at + 1:])
